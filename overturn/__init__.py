@@ -1,0 +1,1 @@
+"""Overturn: how many votes does it take to reverse a judgment?"""

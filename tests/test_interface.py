@@ -1,0 +1,64 @@
+"""Point 280 and the head of "The interface": names, places of arguments, files."""
+
+import importlib
+import inspect
+import unittest
+
+from exact import ExactCase
+
+INTERFACE = {
+    "calendars": {
+        "is_business_day": "calendar, day",
+        "next_business_day": "calendar, day",
+        "previous_business_day": "calendar, day",
+        "count_business_days": "calendar, first, last",
+        "business_day_after": "calendar, day, many",
+    },
+    "stays": {
+        "is_stayed": "stays, day",
+        "normal_stays": "stays",
+        "count_stayed_days": "stays, first, last",
+    },
+    "terms": {
+        "count_counting_days": "calendar, stays, kind, first, last",
+        "term_end": "calendar, stays, kind, day, days",
+        "latest_start": "calendar, stays, kind, days, day",
+    },
+    "service": {
+        "effect_day": "rules, attempt",
+        "service_day": "rules, attempts",
+        "decisive_attempts": "rules, attempts",
+    },
+}
+ERRORS = (
+    "OverturnError",
+    "CauseError",
+    "TwoWays",
+    "BadConfig",
+    "NotReversible",
+    "DayPassed",
+    "NothingToUndo",
+)
+
+
+class Interface(ExactCase):
+
+    def test_each_function_is_defined_in_its_file_with_its_arguments(self):
+        for module, functions in INTERFACE.items():
+            found = importlib.import_module(f"overturn.{module}")
+            for name, arguments in functions.items():
+                function = getattr(found, name)
+                self.assertTrue(inspect.isfunction(function), name)
+                self.assertExact(function.__module__, f"overturn.{module}", name)
+                self.assertExact(str(inspect.signature(function)), f"({arguments})", name)
+
+    def test_each_error_is_defined_in_its_file(self):
+        found = importlib.import_module("overturn.errors")
+        for name in ERRORS:
+            error = getattr(found, name)
+            self.assertTrue(inspect.isclass(error), name)
+            self.assertExact(error.__module__, "overturn.errors", name)
+
+
+if __name__ == "__main__":
+    unittest.main()
