@@ -45,3 +45,46 @@ def draw_attempts(random, days=60, many=6):
         (random.randint(0, days), random.choice(METHODS), random.random() < 0.4)
         for _ in range(random.randint(0, many))
     )
+
+
+def draw_clock(random, days=60):
+    return (
+        random.randint(0, days),
+        draw_attempts(random, days, random.choice((0, 1, 6))),
+        draw_stays(random, days),
+        random.choice((None, random.randint(0, days))),
+    )
+
+
+def draw_event(random, day):
+    word = random.choice(("attempt", "return", "stay"))
+    if word == "attempt":
+        return word, random.choice(METHODS)
+    if word == "return":
+        return word, random.choice((random.randint(0, 5), random.randint(0, 9)))
+    first = max(0, day + random.randint(-3, 12))
+    return word, first, max(0, first + random.randint(-2, 8))
+
+
+def draw_cause(random, issues=8, nested=7):
+    """Draw a cause with exactly so many issues, from 1 to 8, whose names differ."""
+    names = [random.choice("abcdefghijklmnopqrstuvwxyz") + letter for letter in "abcdefgh"]
+    return _draw_formula(random, issues, nested, names)
+
+
+def _draw_formula(random, issues, nested, names):
+    if issues == 1:
+        of_law, majority = random.choice(((False, 0), (False, 1), (False, 2), (True, 0)))
+        return "issue", names.pop(), of_law, majority
+    # Each operand needs enough depth for its issues.
+    most = 2 ** (nested - 1)
+    least, greatest = max(1, issues - most), min(issues - 1, most)
+    left = random.choice((least, greatest, random.randint(least, greatest)))
+    word = random.choice(("and", "or", "unless"))
+    first = _draw_formula(random, left, nested - 1, names)
+    return word, first, _draw_formula(random, issues - left, nested - 1, names)
+
+
+def draw_findings(random, issues):
+    letters = random.choice(("01?", "01????", "??????1", "0011?"))
+    return "".join(random.choice(letters) for _ in range(issues))

@@ -43,6 +43,66 @@ SERVICE = """
 ((), None)
 """
 
+PERIODS = """
+>>> from overturn.periods import changing_events, clock_after, own_end, period_end
+>>> own_end(rules, "calendar", 4, (10, (), (), None)), changing_events(rules, "calendar", 4, (10, (), (), None), 15)
+(19, (('attempt', 'hand'), ('stay', 19, 19)))
+>>> clock = (10, ((11, "hand", False),), ((16, 17),), 14)
+>>> own_end(rules, "calendar", 4, clock), period_end(rules, "calendar", 4, clock)
+(15, 21)
+>>> changing_events(rules, "calendar", 4, clock, 18), changing_events(rules, "calendar", 4, clock, 22)
+((('stay', 21, 21),), None)
+>>> clock_after(rules, "calendar", 4, clock, 18, ("stay", 21, 21))
+(10, ((11, 'hand', False),), ((16, 17), (21, 21)), 14)
+"""
+
+INTAKE = """
+>>> from overturn.intake import admissible_stamps, awaited_stamp, new_queue, rejection, submitted
+>>> first = submitted(new_queue(2), (5, 0, 1))
+>>> first
+(None, (), (((1, 5), (0, 0)), ((5, 0, 1),)))
+>>> second = submitted(first[2], (4, 1, 2))
+>>> second[2], awaited_stamp(second[2])
+((((1, 5), (0, 0)), ((4, 1, 2), (5, 0, 1))), (0, 1, 1))
+>>> third = submitted(second[2], (3, 1, 1))
+>>> third
+(None, ((3, 1, 1), (4, 1, 2)), (((1, 5), (2, 4)), ((5, 0, 1),)))
+>>> admissible_stamps(third[2]), submitted(third[2], (6, 1, 3))[1], rejection(third[2], (5, 0, 1)), rejection(third[2], (3, 1, 3))
+(((5, 0, 2), (4, 1, 3)), ((5, 0, 1),), 'duplicate', 'day out of order')
+"""
+
+READER = """
+>>> from overturn.reader import read_cause
+>>> read_cause("( a! unless b*)")
+('unless', ('issue', 'a', True, 0), ('issue', 'b', False, 2))
+"""
+
+PRINTER = """
+>>> from overturn.printer import show_cause
+>>> show_cause(("unless", ("issue", "a", True, 0), ("issue", "b", False, 2)))
+'(a! unless b*)'
+"""
+
+CAUSES = """
+>>> from overturn.causes import depth_of, issues_of, value_of, winner_by
+>>> cause = read_cause("((a and b+) unless (c! unless d*))")
+>>> issues_of(cause)
+(('a', False, 0, 'claimant'), ('b', False, 1, 'claimant'), ('c', True, 0, 'respondent'), ('d', False, 2, 'claimant'))
+>>> depth_of(cause), value_of(cause, "11?1"), winner_by(cause, "?0??"), winner_by(cause, "111?")
+(2, True, 'respondent', None)
+"""
+
+RELEVANCE = """
+>>> from overturn.relevance import least_rulings, relevant_issues, stalling_finding
+>>> cause = read_cause("(a and (b or c))")
+>>> relevant_issues(cause, "1??"), least_rulings(cause, "1??", "claimant"), least_rulings(cause, "1??", "respondent")
+((1, 2), 1, 2)
+>>> relevant_issues(cause, "0??"), least_rulings(cause, "0??", "claimant"), least_rulings(cause, "0??", "respondent")
+((), None, 0)
+>>> stalling_finding(cause, "???", 0), stalling_finding(cause, "???", 1), stalling_finding(cause, "?0?", 2)
+(True, False, True)
+"""
+
 
 class Examples(unittest.TestCase):
 
@@ -65,6 +125,24 @@ class Examples(unittest.TestCase):
 
     def test_service(self):
         self.check(SERVICE)
+
+    def test_periods(self):
+        self.check(SERVICE, PERIODS)
+
+    def test_intake(self):
+        self.check(INTAKE)
+
+    def test_reader(self):
+        self.check(READER)
+
+    def test_printer(self):
+        self.check(PRINTER)
+
+    def test_causes(self):
+        self.check(READER, CAUSES)
+
+    def test_relevance(self):
+        self.check(READER, RELEVANCE)
 
 
 if __name__ == "__main__":

@@ -29,6 +29,37 @@ INTERFACE = {
         "service_day": "rules, attempts",
         "decisive_attempts": "rules, attempts",
     },
+    "periods": {
+        "own_end": "rules, kind, days, clock",
+        "period_end": "rules, kind, days, clock",
+        "is_permitted": "rules, kind, days, clock, day, event",
+        "clock_after": "rules, kind, days, clock, day, event",
+        "changing_events": "rules, kind, days, clock, day",
+    },
+    "intake": {
+        "new_queue": "offices",
+        "rejection": "queue, stamp",
+        "submitted": "queue, stamp",
+        "admissible_stamps": "queue",
+        "awaited_stamp": "queue",
+    },
+    "reader": {
+        "read_cause": "text",
+    },
+    "printer": {
+        "show_cause": "cause",
+    },
+    "causes": {
+        "issues_of": "cause",
+        "depth_of": "cause",
+        "value_of": "cause, findings",
+        "winner_by": "cause, findings",
+    },
+    "relevance": {
+        "relevant_issues": "cause, findings",
+        "least_rulings": "cause, findings, party",
+        "stalling_finding": "cause, findings, issue",
+    },
 }
 ERRORS = (
     "OverturnError",

@@ -1,0 +1,8 @@
+"""The two parties."""
+
+
+def opponent_of(party):
+    """Return the opponent of the party."""
+    if party == "claimant":
+        return "respondent"
+    return "claimant"
