@@ -1,7 +1,6 @@
 """Causes: their issues, depths, values and winners."""
 
-from overturn.formulas import is_issue, split_row
-from overturn.parties import opponent_of
+from overturn.formulas import is_issue, second_party, split_row
 
 VALUES = {"1": True, "0": False, "?": None}
 WINNERS = {True: "claimant", False: "respondent", None: None}
@@ -11,9 +10,8 @@ def issues_within(cause, party):
     """Return what issues_of returns for a formula whose first issue is one of the party."""
     if is_issue(cause):
         return (cause[1:] + (party,),)
-    connective, first, second = cause
-    second_party = opponent_of(party) if connective == "unless" else party
-    return issues_within(first, party) + issues_within(second, second_party)
+    second = issues_within(cause[2], second_party(cause, party))
+    return issues_within(cause[1], party) + second
 
 
 def issues_of(cause):

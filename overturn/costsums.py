@@ -1,4 +1,4 @@
-"""Sums and comparisons of costs, which may be infinite."""
+"""Sums, differences and comparisons of costs, which may be infinite."""
 
 
 def cost_sum(first, second):
@@ -8,10 +8,29 @@ def cost_sum(first, second):
     return first + second
 
 
+def total_cost(costs):
+    """Return the sum of the costs of a list, 0 if it is empty."""
+    if None in costs:
+        return None
+    return sum(costs)
+
+
+def cost_left(cost, taken):
+    """Return the cost minus an integer that is not greater than it."""
+    if cost is None:
+        return None
+    return cost - taken
+
+
+def is_greater_cost(first, second):
+    """Return whether the first cost is greater than the second one."""
+    if second is None:
+        return False
+    return first is None or first > second
+
+
 def smaller_cost(first, second):
     """Return the smaller one of two costs."""
-    if first is None:
+    if is_greater_cost(first, second):
         return second
-    if second is None:
-        return first
-    return min(first, second)
+    return first

@@ -88,3 +88,45 @@ def _draw_formula(random, issues, nested, names):
 def draw_findings(random, issues):
     letters = random.choice(("01?", "01????", "??????1", "0011?"))
     return "".join(random.choice(letters) for _ in range(issues))
+
+
+def draw_cost(random):
+    """Draw a cost; small ones and infinite ones are often equal."""
+    return random.choice((0, 0, None, random.randint(0, 3), random.randint(0, 100)))
+
+
+def draw_costs(random, issues):
+    return tuple((draw_cost(random), draw_cost(random)) for _ in range(issues))
+
+
+def draw_one_way_costs(random, issues):
+    """Draw costs of which at least one is 0 for each issue, mostly for finding it true."""
+    pairs = []
+    for _ in range(issues):
+        pair = (0, random.choice((draw_cost(random), random.randint(1, 9))))
+        pairs.append(pair if random.random() < 0.6 else pair[::-1])
+    return tuple(pairs)
+
+
+def draw_assignment(random, issues):
+    letters = random.choice(("01?", "01????", "0011?"))
+    return "".join(random.choice(letters) for _ in range(issues))
+
+
+def draw_hierarchy(random, many):
+    """Draw the courts of a hierarchy; only the superiors are of interest."""
+    superiors = [random.choice((None, *range(number), *range(number))) for number in range(many)]
+    return tuple((superior, 1, 1, True, 0, 5, False, 0) for superior in superiors)
+
+
+def draw_jurisdiction(random, limit):
+    """Draw rules whose amounts are at most the limit, many of which touch one another."""
+    rules, ends = [], [0, limit]
+    for _ in range(random.randint(1, 8)):
+        categories = tuple(sorted(random.sample(range(4), random.choice((1, 2, 4, 4)))))
+        low = random.choice((0, random.choice(ends), random.randint(0, limit)))
+        high = random.choice((None, random.choice(ends), random.randint(0, limit)))
+        if high is not None:
+            ends.extend([high, min(limit, high + 1)])
+        rules.append((categories, low, high, random.randint(0, 9)))
+    return tuple(rules)

@@ -103,6 +103,55 @@ RELEVANCE = """
 (True, False, True)
 """
 
+COSTS = """
+>>> from overturn.costs import assignment_cost, least_cost
+>>> cause = read_cause("(a and (b or c))")
+>>> least_cost(cause, ((0, 3), (2, 0), (2, 0)), "claimant"), least_cost(cause, ((0, 3), (2, 0), (2, 0)), "respondent")
+((2, '11?'), (0, '?00'))
+>>> least_cost(cause, ((0, 3), (None, 0), (None, 0)), "claimant"), assignment_cost(((0, 3), (None, 0), (2, 5)), "0?0")
+((None, None), 8)
+"""
+
+GROUNDS = """
+>>> from overturn.grounds import count_grounds, each_ground, ground_at, ground_number, supports
+>>> cause = read_cause("((a or b) and (c or d))")
+>>> list(each_ground(cause, "claimant")), list(each_ground(cause, "respondent"))
+(['1?1?', '1??1', '?11?', '?1?1'], ['00??', '??00'])
+>>> count_grounds(cause, "claimant"), ground_at(cause, "claimant", 2), ground_at(cause, "claimant", 4)
+(4, '?11?', None)
+>>> ground_number(cause, "claimant", "?1?1"), ground_number(cause, "claimant", "11?1"), supports("11?1", "?1?1")
+(3, None, True)
+"""
+
+PACKINGS = """
+>>> from overturn.packings import check_certificate, merged, packing_for, total_weight
+>>> costs = ((0, 3), (0, 2), (0, 4), (0, None))
+>>> packing = packing_for(cause, costs, "claimant")
+>>> packing, total_weight(packing)
+((('1?1?', 3), ('?11?', 1), ('?1?1', 1)), 5)
+>>> check_certificate(cause, costs, "claimant", packing, "00??"), check_certificate(cause, costs, "claimant", packing, "??00")
+(True, False)
+>>> merged((("1???", None), ("?1??", 2)), (("??1?", 4), ("???1", None)))
+(('1?1?', 4), ('1??1', None))
+"""
+
+COURTS = """
+>>> from overturn.courts import appeal_chain, common_superior, subordinates
+>>> top = (None, 1, 1, True, 0, 5, False, 0)
+>>> courts = (top, (0,) + top[1:], (0,) + top[1:], (1,) + top[1:], (2,) + top[1:])
+>>> appeal_chain(courts, 3), common_superior(courts, 3, 4), common_superior(courts, 3, 1), subordinates(courts, 1)
+((3, 1, 0), 0, 1, (1, 3))
+"""
+
+JURISDICTION = """
+>>> from overturn.jurisdiction import applicable_rules, competent_court, first_gap, first_overlap
+>>> split = (((0, 1, 2, 3), 0, 999, 2), ((0,), 1000, None, 1))
+>>> applicable_rules(split, 0, 999), competent_court(split, 0, 1000), first_gap(split), first_overlap(split)
+((0,), 1, (1, 1000), None)
+>>> first_overlap((((0, 1, 2, 3), 0, None, 2), ((3,), 500, 600, 1))), first_gap((((0, 1, 2, 3), 0, 100000, 2),))
+((3, 500), (0, 100001))
+"""
+
 
 class Examples(unittest.TestCase):
 
@@ -143,6 +192,21 @@ class Examples(unittest.TestCase):
 
     def test_relevance(self):
         self.check(READER, RELEVANCE)
+
+    def test_costs(self):
+        self.check(READER, COSTS)
+
+    def test_grounds(self):
+        self.check(READER, GROUNDS)
+
+    def test_packings(self):
+        self.check(READER, GROUNDS, PACKINGS)
+
+    def test_courts(self):
+        self.check(COURTS)
+
+    def test_jurisdiction(self):
+        self.check(JURISDICTION)
 
 
 if __name__ == "__main__":

@@ -60,6 +60,34 @@ INTERFACE = {
         "least_rulings": "cause, findings, party",
         "stalling_finding": "cause, findings, issue",
     },
+    "costs": {
+        "least_cost": "cause, costs, party",
+        "assignment_cost": "costs, assignment",
+    },
+    "grounds": {
+        "each_ground": "cause, party",
+        "count_grounds": "cause, party",
+        "ground_at": "cause, party, number",
+        "ground_number": "cause, party, assignment",
+        "supports": "findings, assignment",
+    },
+    "packings": {
+        "packing_for": "cause, costs, party",
+        "total_weight": "packing",
+        "merged": "first, second",
+        "check_certificate": "cause, costs, party, packing, assignment",
+    },
+    "courts": {
+        "appeal_chain": "courts, court",
+        "subordinates": "courts, court",
+        "common_superior": "courts, first, second",
+    },
+    "jurisdiction": {
+        "applicable_rules": "jurisdiction, category, amount",
+        "competent_court": "jurisdiction, category, amount",
+        "first_gap": "jurisdiction",
+        "first_overlap": "jurisdiction",
+    },
 }
 ERRORS = (
     "OverturnError",
@@ -82,6 +110,14 @@ class Interface(ExactCase):
                 self.assertTrue(inspect.isfunction(function), name)
                 self.assertExact(function.__module__, f"overturn.{module}", name)
                 self.assertExact(str(inspect.signature(function)), f"({arguments})", name)
+
+    def test_only_each_ground_is_a_generator(self):
+        found = [
+            name
+            for module, functions in INTERFACE.items() for name in functions
+            if inspect.isgeneratorfunction(getattr(importlib.import_module(f"overturn.{module}"), name))
+        ]
+        self.assertExact(found, ["each_ground"])
 
     def test_each_error_is_defined_in_its_file(self):
         found = importlib.import_module("overturn.errors")
