@@ -34,3 +34,8 @@ def smaller_cost(first, second):
     if is_greater_cost(first, second):
         return second
     return first
+
+
+def least_of(costs):
+    """Return the least one of the costs of a list, infinite if it is empty."""
+    return min([cost for cost in costs if cost is not None], default=None)

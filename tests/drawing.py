@@ -130,3 +130,40 @@ def draw_jurisdiction(random, limit):
             ends.extend([high, min(limit, high + 1)])
         rules.append((categories, low, high, random.randint(0, 9)))
     return tuple(rules)
+
+
+def draw_courts(random, many):
+    """Draw the courts of a hierarchy with benches of every size."""
+    courts = []
+    for superior, *_ in draw_hierarchy(random, many):
+        bench = random.randint(1, 5)
+        full_bench = random.randint(bench, 9)
+        facts, least = random.random() < 0.7, random.choice((0, 0, 499, 500, 501, 10000))
+        courts.append((superior, bench, full_bench, facts, least, 5, False, 0))
+    return tuple(courts)
+
+
+def draw_matter(random):
+    of_law = random.random() < 0.5
+    precedent = random.choice((None, (random.randint(0, 4), random.random() < 0.5)))
+    return of_law, random.randint(0, 2), random.choice((500, 500, 0, 10000)), precedent
+
+
+def draw_tags(random):
+    return tuple(sorted(random.sample((0, 1, 2, 3, 9), random.choice((0, 0, 1, 2, 4)))))
+
+
+def draw_precedents(random, many):
+    """Draw precedents for few causes and issues, so that several are on the same issue."""
+    return tuple(
+        (
+            random.randint(0, 2),
+            random.randint(0, 1),
+            random.randint(0, 1),
+            random.choice((0, 0, 1)),
+            random.randint(0, 4),
+            random.random() < 0.5,
+            draw_tags(random),
+        )
+        for _ in range(many)
+    )

@@ -152,6 +152,65 @@ JURISDICTION = """
 ((3, 500), (0, 100001))
 """
 
+VOTING = """
+>>> from overturn.voting import agreeing_votes, count_votes, least_agreeing, votes_needed
+>>> votes_needed(4, 0), votes_needed(5, 1), votes_needed(3, 2)
+((3, 2), (4, 2), (3, 1))
+>>> count_votes(1, "11010", True), count_votes(0, "", None)
+((False, 2), (False, 0))
+>>> least_agreeing(9, 1, 2), least_agreeing(3, 0, 3), agreeing_votes(3, 0, 3), agreeing_votes(5, 1, 2)
+(3, 0, ('011', '101', '110'), ('01111', '10111'))
+"""
+
+PRECEDENTS = """
+>>> from overturn.precedents import controlling_precedent, distinguished, record_precedent
+>>> precedents = ((0, 0, 1, 2, 1, True, ()), (1, 0, 1, 2, 0, False, (4, 7)), (2, 0, 1, 2, 1, False, (4,)), (3, 0, 1, 2, 3, True, ()))
+>>> controlling_precedent((2, 1, 0), precedents, 2, 1, ()), distinguished((2, 1, 0), precedents, 2, 1, ())
+((1, True), ((1, (4, 7)), (2, (4,))))
+>>> controlling_precedent((2, 1, 0), precedents, 2, 1, (4,)), controlling_precedent((2, 1, 0), precedents, 2, 1, (4, 7))
+((1, False), (2, False))
+>>> record_precedent(precedents[:2], (0, 0, 1, 2, 0, False, ()))
+((1, 0, 1, 2, 0, False, (4, 7)), (0, 0, 1, 2, 0, False, ()))
+"""
+
+REVIEW = """
+>>> from overturn.review import cheapest_rulings, is_allowed, needed_at, review_path
+>>> courts = ((None, 5, 9, False, 0, 5, False, 0), (0, 3, 5, True, 0, 5, False, 0), (1, 1, 1, True, 0, 5, False, 0))
+>>> matter = (True, 0, 500, (2, True))
+>>> review_path(courts, (2, 1, 0), matter, 1, 9), review_path(courts, (2, 1, 0), matter, 1, 1)
+(((1, 2), 2, 5), ((1,), 2, None))
+>>> needed_at(courts[1], matter, 1), needed_at(courts[0], matter, 2), is_allowed(courts[0], matter, 2, "00000")
+((2, None), (3, 5), False)
+>>> cheapest_rulings(courts, (2, 1, 0), matter, True, 1, 9), cheapest_rulings(courts, (2, 1, 0), matter, True, 1, 1)
+(('111', '000001111'), None)
+>>> review_path(courts, (2, 1, 0), (False, 0, 500, None), 1, 9)
+((1,), 2, 2)
+"""
+
+CONFIGS = """
+>>> from overturn.configs import config_errors
+>>> config_errors((rules, 1, 0, ((0, 3, 1, True, 0, 5, False, 0),), (cause,), (((0,), 5, None, 1),)))
+(('superior', 0), ('bench', 0), ('court', 0))
+>>> config_errors((rules, 1, 0, (top,), (cause,), (((0,), 5, None, 0),)))
+(('gap', (0, 0)),)
+"""
+
+SHARES = """
+>>> from overturn.shares import apportion, distribute, legal_costs
+>>> apportion(10, (6, 6, 2)), apportion(11, (6, 6, 2)), apportion(5, (0, 0))
+((4, 4, 2), (5, 5, 1), (0, 0))
+>>> legal_costs(((100, "claimant"), (50, "respondent"), (70, None)), 10, 5), legal_costs((), 3, 0)
+((5, 10, -5), (3, 0, 0))
+>>> distribute(14, ((3, 6), (1, 4), (3, 2), (3, 6))), distribute(15, ((3, 6), (1, 4), (3, 2), (3, 6)))
+((4, 4, 2, 4), (5, 4, 1, 5))
+"""
+
+ACCRUAL = """
+>>> from overturn.accrual import days_until, interest_on
+>>> interest_on(10000, 500, 365), interest_on(10000, 500, 364), days_until(10000, 500, 500), days_until(10000, 0, 1)
+(500, 498, 365, None)
+"""
+
 
 class Examples(unittest.TestCase):
 
@@ -207,6 +266,24 @@ class Examples(unittest.TestCase):
 
     def test_jurisdiction(self):
         self.check(JURISDICTION)
+
+    def test_voting(self):
+        self.check(VOTING)
+
+    def test_precedents(self):
+        self.check(PRECEDENTS)
+
+    def test_review(self):
+        self.check(REVIEW)
+
+    def test_configs(self):
+        self.check(SERVICE, READER, GROUNDS, COURTS, CONFIGS)
+
+    def test_shares(self):
+        self.check(SHARES)
+
+    def test_accrual(self):
+        self.check(ACCRUAL)
 
 
 if __name__ == "__main__":

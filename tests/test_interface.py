@@ -88,6 +88,37 @@ INTERFACE = {
         "first_gap": "jurisdiction",
         "first_overlap": "jurisdiction",
     },
+    "voting": {
+        "votes_needed": "bench, majority",
+        "count_votes": "majority, votes, previous",
+        "least_agreeing": "bench, majority, many",
+        "agreeing_votes": "bench, majority, many",
+    },
+    "precedents": {
+        "controlling_precedent": "chain, precedents, cause, issue, tags",
+        "distinguished": "chain, precedents, cause, issue, tags",
+        "record_precedent": "precedents, precedent",
+    },
+    "review": {
+        "reviews": "court, of_law, amount",
+        "needed_at": "court, matter, level",
+        "is_allowed": "court, matter, level, votes",
+        "review_path": "courts, chain, matter, level, top",
+        "cheapest_rulings": "courts, chain, matter, finding, level, top",
+    },
+    "configs": {
+        "config_errors": "config",
+        "check_config": "config",
+    },
+    "shares": {
+        "apportion": "total, weights",
+        "legal_costs": "claims, claimant_paid, respondent_paid",
+        "distribute": "estate, claims",
+    },
+    "accrual": {
+        "interest_on": "amount, rate, days",
+        "days_until": "amount, rate, target",
+    },
 }
 ERRORS = (
     "OverturnError",
