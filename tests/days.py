@@ -49,3 +49,20 @@ def service_by_definition(rules, attempts):
     """Return the service day or None."""
     effects = [effect_by_definition(rules, one) for one in attempts if not one[2]]
     return min(effects) if effects else None
+
+
+def own_by_definition(rules, kind, days, clock):
+    """Return the day with which an own period ends."""
+    judgment_day, attempts, stays, _ = clock
+    served = service_by_definition(rules, attempts)
+    if served is None:
+        return judgment_day + rules[3]
+    return term_end_by_definition(rules[:2], stays, kind, served, days)
+
+
+def period_by_definition(rules, kind, days, clock):
+    """Return the day with which a period ends."""
+    ends = [own_by_definition(rules, kind, days, clock)]
+    if clock[3] is not None:
+        ends.append(term_end_by_definition(rules[:2], clock[2], "calendar", clock[3], rules[2]))
+    return max(ends)

@@ -3,7 +3,10 @@
 import random
 import unittest
 
-from days import effect_by_definition, service_by_definition, term_end_by_definition
+from days import (
+    effect_by_definition, own_by_definition, period_by_definition, service_by_definition,
+    term_end_by_definition,
+)
 from drawing import draw_clock, draw_event, draw_rules
 from exact import ExactCase
 from overturn.periods import changing_events, clock_after, is_permitted, own_end, period_end
@@ -12,21 +15,6 @@ KINDS = ("calendar", "business")
 EVERY_DAY = ("1111111", (), 5, 9, 3, 7, 4)
 WORKDAYS = ("0111110", (), 5, 9, 3, 7, 4)
 SERVED = ((11, "hand", False),)
-
-
-def own_by_definition(rules, kind, days, clock):
-    judgment_day, attempts, stays, _ = clock
-    served = service_by_definition(rules, attempts)
-    if served is None:
-        return judgment_day + rules[3]
-    return term_end_by_definition(rules[:2], stays, kind, served, days)
-
-
-def period_by_definition(rules, kind, days, clock):
-    ends = [own_by_definition(rules, kind, days, clock)]
-    if clock[3] is not None:
-        ends.append(term_end_by_definition(rules[:2], clock[2], "calendar", clock[3], rules[2]))
-    return max(ends)
 
 
 def is_permitted_by_definition(rules, kind, days, clock, day, event):
