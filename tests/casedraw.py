@@ -157,12 +157,13 @@ def draw_case(random, config):
     first = random.randint(0, 3)
     stays = tuple(
         (day, day + random.randint(0, 3))
-        for day in (random.randint(0, 15) for _ in range(random.choice((0, 0, 1, 3))))
+        for day in (random.randint(0, 15) for _ in range(random.choice((0, 0, 1, 3, 6))))
     )
     stage = judged() if is_judged else deliberating()
     case = (
         random.randint(0, 5), random.choice((0, 0, first)), random.randint(0, 3), draw_tags(random),
-        tuple(random.sample(range(4), 2)), tuple(chain), random.random() < 0.5, (), stays,
+        tuple(random.sample(range(4), 2)), tuple(chain), random.random() < 0.4,
+        draw_days(random, random.choice((0, 1, 2, 4))), stays,
         is_judged or level > 0 or random.random() < 0.5, (1, 0), tuple(claims), level, stage,
     )
     case = changed(case, stage=draw_stage(random, config, case))
@@ -172,11 +173,21 @@ def draw_case(random, config):
     return case
 
 
+def draw_case_day(random, config, case):
+    """Draw a day for the case, often the last one of a period or the day behind it."""
+    least = case[1]
+    if case[13][0] == "judged":
+        least = max(least, case[13][1])
+        if random.random() < 0.5:
+            own, end = random.choice(Model(config, case).periods())
+            return max(least, random.choice((own, end)) + random.choice((0, 1)))
+    return least + random.choice((0, 0, 1, 3, 6, 10, 20))
+
+
 def sound_cases(seed, many, **bounds):
     """Draw so many configurations and sound cases, each with a day."""
     draw = random.Random(seed)
     for _ in range(many):
         config = draw_config(draw, **bounds)
         case = draw_case(draw, config)
-        last = case[13][1] if case[13][0] == "judged" else case[1]
-        yield draw, config, case, max(case[1], last) + draw.choice((0, 0, 1, 3, 6, 10, 20))
+        yield draw, config, case, draw_case_day(draw, config, case)

@@ -211,6 +211,161 @@ ACCRUAL = """
 (500, 498, 365, None)
 """
 
+POINT_3 = """
+>>> from overturn.dockets import Docket
+>>> from overturn.paths import reversal_path
+>>> from overturn.reader import read_cause
+>>> from overturn.reversals import reversal_cost
+>>> high = (None, 5, 9, False, 50, 14, False, 10)
+>>> middle = (0, 3, 9, True, 0, 14, False, 5)
+>>> low = (1, 1, 1, True, 0, 14, False, 1)
+>>> rules = ("1111111", (), 7, 30, 3, 14, 10)
+>>> cause = read_cause("((a and (b+ or c!)) unless d)")
+>>> config = (rules, 1, 1000, (high, middle, low), (cause,), (((0, 1, 2, 3), 0, None, 2),))
+>>> docket = Docket(config)
+>>> docket.file(0, ("complaint", 0, (), 1, 2, ((0, 100),)))
+(None, (0, 2))
+>>> docket.file(0, ("answer", 0)), docket.file(0, ("ruling", 0, 0, 0, "1", ()))
+((None, ()), (None, (1,)))
+>>> docket.file(0, ("ruling", 0, 0, 1, "1", ())), docket.file(0, ("ruling", 0, 0, 3, "0", ()))
+((None, (1,)), (None, (0,)))
+>>> case = docket.cases[0]
+>>> reversal_cost(config, case, 0, 0, "respondent")
+(2, '0???')
+>>> reversal_path(config, case, 0, 0, "respondent")
+(('appeal', 0, 'respondent', ((0, 0),)), ('hearing', 0), ('ruling', 0, 0, 0, '001', ()))
+"""
+
+ENFORCEMENT = """
+>>> from overturn.enforcement import enforcement_step
+>>> enforcement_step((0, 0), (None, True, False), ("deposit", 12)), enforcement_step((0, 12), ("claimant", True, False), ("enforce", 10))
+((None, 12, (0, 12)), (None, 10, (10, 12)))
+>>> enforcement_step((10, 12), ("claimant", True, False), ("release",)), enforcement_step((10, 12), ("respondent", True, False), ("restitute",))
+(('required', 0, (10, 12)), (None, 10, (0, 2)))
+"""
+
+ACCOUNTS = """
+>>> from overturn.accounts import balances_after, net_debts
+>>> balances_after(((0, 1, 5), (1, None, 3), (None, 0, 3), (2, 2, 9)))
+((0, -2), (1, 2), (2, 0))
+>>> net_debts(((1, 0, 5), (0, 1, 7), (2, 2, 9), (0, 2, 1), (1, 2, 4), (0, 2, 2), (2, 1, 4)))
+((0, 1, 2), (0, 2, 3))
+"""
+
+CASES = """
+>>> from overturn.cases import adverse_issues, claim_winner, findings_of, flaw, nameable_issues
+>>> case
+(0, 0, 0, (), (1, 2), (2, 1, 0), True, (), (), True, (1, 0), ((0, 100, (0, 0), (('1', False, None, False), ('1', False, None, False), ('?', False, None, False), ('0', False, None, False))),), 0, ('judged', 0, ((), ()), (None, None), None))
+>>> findings_of(case, 0), claim_winner(config, case, 0)
+('11?0', 'claimant')
+>>> adverse_issues(config, case, "respondent"), nameable_issues(config, case, "claimant")
+(((0, 0), (0, 1), (0, 3)), ())
+>>> flaw(config, case), flaw(config, case[:12] + (3,) + case[13:]), flaw(config, case[:9] + (False,) + case[10:])
+(None, 'level', 'ever judged')
+"""
+
+STANDING = """
+>>> from overturn.standing import is_done, may_appeal, may_be_opposed, may_still_appeal, periods_of
+>>> periods_of(config, case), may_appeal(config, case, 30, "respondent"), may_still_appeal(config, case, 31, "respondent")
+(((30, 30), (30, 30)), True, False)
+>>> may_appeal(config, case, 0, "claimant"), is_done(config, case, 0, "claimant"), is_done(config, case, 0, "respondent"), may_be_opposed(config, case, 0)
+(False, True, False, False)
+"""
+
+REVERSALS = """
+>>> from overturn.reversals import costs_by_level, current_grounds, is_final, issue_costs, reversal_cost
+>>> issue_costs(config, case, 0, 0), issue_costs(config, case, 0, 0, up_to=0)
+(((0, 2), (0, 2), (0, 0), (2, 0)), ((0, None), (0, None), (0, 0), (None, 0)))
+>>> reversal_cost(config, case, 0, 0, "respondent", up_to=0), reversal_cost(config, case, 0, 0, "claimant", up_to=0)
+((None, None), (0, '11?0'))
+>>> costs_by_level(config, case, 0, 0, "respondent"), current_grounds(config, case, 0, 0)
+((None, 2, 2), (('11?0', 2),))
+>>> is_final(config, case, 30, 0), is_final(config, case, 31, 0), current_grounds(config, case, 31, 0)
+(False, True, (('11?0', None),))
+"""
+
+FILINGS = """
+>>> from overturn.filings import contrary_votes, processed
+>>> appealed = processed(config, case, 1, ("appeal", 0, "respondent", ((0, 0),)))
+>>> appealed[:2], appealed[2][13]
+((None, (1,)), ('judged', 0, ((), ()), (None, ((0, 0),)), 1))
+>>> heard = processed(config, appealed[2], 1, ("hearing", 0))
+>>> heard[:2], heard[2][12:]
+((None, (1,)), (1, ('deliberating', ((0, 0),))))
+>>> heard[2][11][0][3]
+(('1', False, None, False), ('1', True, None, False), ('?', False, None, False), ('0', True, None, False))
+>>> processed(config, heard[2], 1, ("ruling", 0, 0, 0, "01", ()))[:2]
+('bench', ())
+>>> ruled = processed(config, heard[2], 1, ("ruling", 0, 0, 0, "010", ()))
+>>> ruled[:2], ruled[2][12:], contrary_votes(config, heard[2], 1, ("ruling", 0, 0, 0, "010", ()), 0)
+((None, (0,)), (1, ('judged', 1, ((), ()), (None, None), None)), 2)
+>>> is_final(config, ruled[2], 1, 0)
+True
+
+>>> plain = (rules, 1, 1000, (high, middle, low), (read_cause("(a and b)"),), (((0, 1, 2, 3), 0, None, 2),))
+>>> room = Docket.replayed(plain, ((0, ("complaint", 0, (), 1, 2, ((0, 100),))), (0, ("ruling", 0, 0, 0, "0", ()))))
+>>> room.file(0, ("appeal", 0, "claimant", ((0, 0),))), room.file(0, ("hearing", 0)), room.file(0, ("ruling", 0, 0, 0, "110", ()))
+((None, (1,)), (None, (1,)), (None, (1,)))
+>>> room.cases[0][12:], room.file(0, ("ruling", 0, 0, 1, "1", ()))
+((1, ('deliberating', ())), (None, (1,)))
+>>> room.cases[0][12:]
+(1, ('judged', 0, ((), ()), (None, None), None))
+"""
+
+COMPLAINTS = """
+>>> from overturn.complaints import opened
+>>> opened(config, (), 6, 0, ("complaint", 0, (), 1, 1, ((5, 100),))), opened(config, (), 0, 0, ("complaint", 0, (), 1, 1, ((5, 100),)))
+(('many', (), None), ('same', (), None))
+>>> known = opened(config, ((0, 0, 2, 0, 1, True, (4,)),), 1, 3, ("complaint", 0, (4, 5), 1, 2, ((0, 100),)))
+>>> known[:2], findings_of(known[2], 0), known[2][11][0][3][2], known[2][12:]
+((None, (1, 2)), '??1?', ('1', False, (1, True), False), (0, ('deliberating', ())))
+"""
+
+DOCKETS = """
+>>> room.day, len(room), room.transfers, room.precedents
+(0, 1, ((1, None, 1), (1, None, 5)), ())
+>>> room.rehearse(((1, ("appeal", 0, "respondent", ((0, 1),))), (1, ("waive", 0, "respondent")), (1, ("answer", 1)), (2, ("heartbeat",))))
+(('cannot', ()), (None, ()), ('no case', ()), (None, ()))
+>>> room.day, len(room.log), room.undo(2), len(room.log)
+(0, 6, ((0, ('ruling', 0, 0, 0, '110', ())), (0, ('ruling', 0, 0, 1, '1', ()))), 4)
+>>> room.file(0, ("ruling", 0, 0, 0, "11", ())), room.file(0, ("ruling", 0, 0, 0, "100", ())), len(room.log)
+(('bench', ()), (None, (0,)), 6)
+"""
+
+PATHS = """
+>>> from overturn.paths import judge_path, next_filing
+>>> path = reversal_path(config, case, 0, 0, "respondent")
+>>> judge_path(config, case, 0, ((0, path[0]), (0, path[1]), (0, path[2])))
+(((None, 0), (None, 0), (None, 2)), 'respondent', 1)
+>>> next_filing(config, case, 0, 0, "respondent", up_to=0), reversal_path(config, case, 0, 0, "claimant")
+(None, ())
+>>> reversal_path(config, known[2], 3, 0, "respondent")
+(('ruling', 1, 0, 0, '0', ()),)
+"""
+
+REPORTS = """
+>>> from overturn.reports import all_debts, amount_due, balance_of, case_costs, estate_of, final_claims
+>>> amount_due(config, case, 365, 0), case_costs(config, case), balance_of((case,), 1)
+(110, (0, 1, -1), -1)
+>>> all_debts(config, (case,), 365), estate_of(config, (case,), 365, 2, 60), final_claims(config, (case,), 31)
+(((2, 1, 111),), ((0, 0, 60),), ((0, 0),))
+"""
+
+REGISTRIES = """
+>>> from overturn.registries import Registry
+>>> desk = Registry((rules, 2) + config[2:])
+>>> desk.submit(((0, 0, 1, ("complaint", 0, (), 1, 2, ((0, 100),))), (1, 1, 1, ("heartbeat",))))
+(((0, 0, 1, None, (0, 2)),), ())
+>>> desk.submit(((2, 0, 3, ("answer", 0)), (1, 0, 2, ("answer", 0)), (1, 0, 2, ("heartbeat",))))
+((), ((1, 0, 2, None, ()), (1, 1, 1, None, ())), 'duplicate')
+>>> desk.watermarks, desk.pending, desk.day, len(desk)
+(((3, 2), (1, 1)), ((2, 0, 3, ('answer', 0)),), 1, 3)
+>>> desk.submit(((2, 1, 2, ("heartbeat",)),)), desk.undo()
+((((2, 0, 3, 'answered', ()),),), ((2, 1, 2, ('heartbeat',)),))
+>>> desk.day, list(desk)[-1]
+(1, (1, 1, 1, None, ()))
+"""
+
 
 class Examples(unittest.TestCase):
 
@@ -284,6 +439,50 @@ class Examples(unittest.TestCase):
 
     def test_accrual(self):
         self.check(ACCRUAL)
+
+    def test_point_3(self):
+        self.check(POINT_3)
+
+    def test_enforcement(self):
+        self.check(ENFORCEMENT)
+
+    def test_accounts(self):
+        self.check(ACCOUNTS)
+
+    def test_cases(self):
+        self.check(POINT_3, CASES)
+
+    def test_standing(self):
+        self.check(POINT_3, STANDING)
+
+    def test_reversals(self):
+        self.check(POINT_3, REVERSALS)
+
+    def test_filings(self):
+        self.check(POINT_3, REVERSALS, FILINGS)
+
+    def test_complaints(self):
+        self.check(POINT_3, CASES, COMPLAINTS)
+
+    def test_dockets(self):
+        self.check(POINT_3, REVERSALS, FILINGS, DOCKETS)
+
+    def test_paths(self):
+        self.check(POINT_3, CASES, COMPLAINTS, PATHS)
+
+    def test_reports(self):
+        self.check(POINT_3, REPORTS)
+
+    def test_registries(self):
+        self.check(POINT_3, REGISTRIES)
+
+    def test_all_of_the_document_one_after_another(self):
+        self.check(
+            POINT_3, CALENDARS, STAYS, TERMS, SERVICE, PERIODS, INTAKE, READER, PRINTER, CAUSES,
+            RELEVANCE, COSTS, GROUNDS, PACKINGS, COURTS, JURISDICTION, VOTING, PRECEDENTS, REVIEW,
+            CONFIGS, SHARES, ACCRUAL, ENFORCEMENT, ACCOUNTS, CASES, STANDING, REVERSALS, FILINGS,
+            COMPLAINTS, DOCKETS, PATHS, REPORTS, REGISTRIES,
+        )
 
 
 if __name__ == "__main__":

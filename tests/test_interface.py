@@ -119,6 +119,82 @@ INTERFACE = {
         "interest_on": "amount, rate, days",
         "days_until": "amount, rate, target",
     },
+    "enforcement": {
+        "enforcement_step": "account, status, step",
+    },
+    "accounts": {
+        "balances_after": "transfers",
+        "net_debts": "debts",
+    },
+    "cases": {
+        "flaw": "config, case",
+        "findings_of": "case, claim",
+        "claim_winner": "config, case, claim",
+        "adverse_issues": "config, case, party",
+        "nameable_issues": "config, case, party",
+    },
+    "standing": {
+        "periods_of": "config, case",
+        "may_appeal": "config, case, day, party",
+        "may_still_appeal": "config, case, day, party",
+        "is_done": "config, case, day, party",
+        "may_be_opposed": "config, case, day",
+        "may_still_be_opposed": "config, case, day",
+    },
+    "reversals": {
+        "issue_costs": "config, case, day, claim, *, up_to=None",
+        "reversal_cost": "config, case, day, claim, party, *, up_to=None",
+        "costs_by_level": "config, case, day, claim, party",
+        "is_final": "config, case, day, claim",
+        "current_grounds": "config, case, day, claim",
+    },
+    "filings": {
+        "processed": "config, case, day, filing",
+        "contrary_votes": "config, case, day, filing, claim",
+    },
+    "complaints": {
+        "opened": "config, precedents, number, day, complaint",
+    },
+    "paths": {
+        "next_filing": "config, case, day, claim, party, *, up_to=None",
+        "reversal_path": "config, case, day, claim, party, *, up_to=None",
+        "judge_path": "config, case, claim, filings",
+    },
+    "reports": {
+        "amount_due": "config, case, day, claim",
+        "case_costs": "config, case",
+        "all_debts": "config, cases, day",
+        "estate_of": "config, cases, day, person, amount",
+        "balance_of": "cases, person",
+        "final_claims": "config, cases, day",
+    },
+}
+# For each class its module, its methods with their arguments, and its properties.
+CLASSES = {
+    "Docket": (
+        "dockets",
+        {
+            "__init__": "self, config",
+            "__len__": "self",
+            "__iter__": "self",
+            "file": "self, day, filing",
+            "rehearse": "self, filings",
+            "undo": "self, many=1",
+            "clone": "self",
+        },
+        ("config", "day", "cases", "precedents", "transfers", "log"),
+    ),
+    "Registry": (
+        "registries",
+        {
+            "__init__": "self, config",
+            "__len__": "self",
+            "__iter__": "self",
+            "submit": "self, submissions",
+            "undo": "self, many=1",
+        },
+        ("config", "day", "cases", "precedents", "transfers", "watermarks", "pending", "log"),
+    ),
 }
 ERRORS = (
     "OverturnError",
@@ -149,6 +225,24 @@ class Interface(ExactCase):
             if inspect.isgeneratorfunction(getattr(importlib.import_module(f"overturn.{module}"), name))
         ]
         self.assertExact(found, ["each_ground"])
+
+    def test_each_class_has_its_methods_and_properties_itself(self):
+        for name, (module, methods, properties) in CLASSES.items():
+            found = getattr(importlib.import_module(f"overturn.{module}"), name)
+            self.assertTrue(inspect.isclass(found), name)
+            self.assertExact(found.__module__, f"overturn.{module}", name)
+            for method, arguments in methods.items():
+                function = vars(found)[method]
+                self.assertTrue(inspect.isfunction(function), method)
+                self.assertFalse(inspect.isgeneratorfunction(function), method)
+                self.assertExact(str(inspect.signature(function)), f"({arguments})", method)
+            for told in properties:
+                self.assertIsInstance(vars(found)[told], property, told)
+
+    def test_replayed_is_a_class_method(self):
+        found = importlib.import_module("overturn.dockets").Docket
+        self.assertIsInstance(vars(found)["replayed"], classmethod)
+        self.assertExact(str(inspect.signature(found.replayed)), "(config, log)")
 
     def test_each_error_is_defined_in_its_file(self):
         found = importlib.import_module("overturn.errors")
