@@ -1,6 +1,7 @@
 """Appeals, waivers and hearings."""
 
-from overturn.cases import BOTH, has_lost, has_twice, nameable_issues
+from overturn.cases import has_lost, has_twice, nameable_issues
+from overturn.parties import BOTH
 from overturn.pleadings import with_unnamed_barred
 from overturn.records import (
     CHAIN, FEES, LEVEL, STAGE, court_at, deliberating, first_appeal_in, is_judged, named_by,

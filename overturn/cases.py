@@ -3,15 +3,13 @@
 from overturn.causes import issues_of, winner_by
 from overturn.courts import appeal_chain
 from overturn.formulas import count_issues
-from overturn.parties import opponent_of
+from overturn.parties import BOTH, opponent_of
 from overturn.records import (
     CHAIN, CLAIMS, EVER_JUDGED, LEVEL, PARTIES, STAGE, all_issues, cause_of, court_at,
     element_at, finding_at, first_appeal_in, has_issue, is_judged, letter_for, named_by, next_level,
     remitted_in,
 )
 from overturn.review import reviews
-
-BOTH = ("claimant", "respondent")
 
 
 def findings_of(case, claim):

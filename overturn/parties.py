@@ -1,5 +1,7 @@
 """The two parties."""
 
+BOTH = ("claimant", "respondent")
+
 
 def opponent_of(party):
     """Return the opponent of the party."""

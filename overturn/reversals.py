@@ -3,7 +3,7 @@
 from overturn.cases import claim_winner, favoured_at, matter_of
 from overturn.costs import least_cost
 from overturn.packings import packing_for
-from overturn.parties import opponent_of
+from overturn.parties import BOTH, opponent_of
 from overturn.records import (
     CHAIN, CLAIMS, LEVEL, cause_of, element_at, finding_at, is_judged, named_by, remitted_in,
 )
@@ -28,9 +28,7 @@ def votes_from(config, case, pair, level, up_to):
 
 def appealing_parties(config, case, day):
     """Return the parties that may still appeal on the day."""
-    return [
-        party for party in ("claimant", "respondent") if may_still_appeal(config, case, day, party)
-    ]
+    return [party for party in BOTH if may_still_appeal(config, case, day, party)]
 
 
 def opposite_cost(config, case, pair, appealing, up_to):
